@@ -56,6 +56,31 @@ func (m malformed) Error() string {
 	return "malformed encoding: code " + strconv.FormatInt(m.code, 10)
 }
 
+// reader takes one value after another from an encoding, and only zero values from the first malformed one on.
+type reader struct {
+	text   string
+	at     int64
+	failed bool
+}
+
+func (in *reader) num() int64 {
+	if in.failed {
+		return 0
+	}
+	got := GetNum(in.text, in.at)
+	in.at, in.failed = got.At, got.Code != OK
+	return got.N
+}
+
+func (in *reader) word() string {
+	if in.failed {
+		return ""
+	}
+	got := GetText(in.text, in.at)
+	in.at, in.failed = got.At, got.Code != OK
+	return got.Text
+}
+
 // PutNum returns the zigzag varint encoding of n.
 func PutNum(n int64) string {
 	var buf [maxNumBytes]byte
