@@ -775,14 +775,7 @@ func TestMailboxesAreNotShared(t *testing.T) {
 			t.Fatalf("call %d: code %d", i, out.Code)
 		}
 		texts := append(append(textsOfMailbox(out.Mailbox), out.To...), fields(out.Back)...)
-		for at, text := range texts {
-			if slices.ContainsFunc(given, func(other string) bool { return sharesText(text, other) }) {
-				t.Errorf("call %d: the text %q is shared", i, text)
-			}
-			if slices.ContainsFunc(texts[:at], func(other string) bool { return sharesText(text, other) }) {
-				t.Errorf("call %d: the text %q is there twice", i, text)
-			}
-		}
+		checkTextsNotShared(t, fmt.Sprintf("call %d", i), texts, given)
 		clear(out.Mailbox.Sessions)
 		clear(out.Mailbox.Kept)
 		_, _ = append(out.Mailbox.Sessions, bound("x")), append(out.Mailbox.Kept, chat())
